@@ -188,13 +188,20 @@ func noFactors(rows int) [][]int {
 	return f
 }
 
-func TestNoFunctionTakesAFlawedBox(t *testing.T) {
-	for name, call := range callsOfBoxes() {
+func checkFlawedBoxesFail(t *testing.T, calls map[string]ofBox) {
+	t.Helper()
+	for name, call := range calls {
 		for _, f := range flawedBoxes() {
 			if ok, zero := call(f.bad, f.good); ok || !zero {
 				t.Fatalf("%s of %v: %v, zero results %v", name, f.bad, ok, zero)
 			}
 		}
+	}
+}
+
+func TestNoFunctionTakesAFlawedBox(t *testing.T) {
+	checkFlawedBoxesFail(t, callsOfBoxes())
+	for name, call := range callsOfBoxes() {
 		if ok, _ := call(mustPlayBox(t, 3, 3, make([]int, 6), 5), mustPlayBox(t, 3, 3, make([]int, 6), 7)); ok == (name == "FirstLoud") {
 			t.Errorf("%s of a quiet Box: %v", name, ok)
 		}
