@@ -97,9 +97,9 @@ func wildRows(r *rand.Rand, rows [][]int) [][]int {
 	place := r.Intn(len(rows))
 	switch r.Intn(6) {
 	case 0:
-		rows[place][r.Intn(4)] = wildInt(r)
+		rows[place][r.Intn(len(rows[place]))] = wildInt(r)
 	case 1:
-		rows[place] = rows[place][:r.Intn(4)]
+		rows[place] = rows[place][:r.Intn(len(rows[place]))]
 	case 2:
 		rows[place] = append(rows[place], wildInt(r))
 	case 3:
